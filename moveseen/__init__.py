@@ -1,0 +1,1 @@
+"""Moveseen: how data is moved, seen by the fewest inputs."""
