@@ -77,11 +77,15 @@ def check_source(family, source):
 def shown(family, source, given):
     """The symbol that an output with this source shows for an input."""
     settled = check_source(family, source)
-    symbols = settled_inputs(family, [given])[0]
-    if isinstance(settled, int):
-        return settled
-    position, change = settled
-    return family.changes[change][symbols[position]]
+    return symbol_shown(family, settled, settled_inputs(family, [given])[0])
+
+
+def symbol_shown(family, source, given):
+    """As shown tells, of a source and an input that were checked before."""
+    if isinstance(source, int):
+        return source
+    position, change = source
+    return family.changes[change][given[position]]
 
 
 def settled_wiring(family, wiring):

@@ -1,8 +1,31 @@
 """What several test files share: calls with lists and tuples, and ways to look at values."""
 
 import unittest
+from itertools import combinations, product
 
+from moveseen.changes import all_changes, symbol_orbits
 from moveseen.families import Family
+
+# All changes of groups of many kinds: one change alone, one orbit and several, free ones and others.
+GROUPS = [
+    all_changes(symbols, given)
+    for symbols, given in (
+        (2, []),
+        (2, [(1, 0)]),
+        (3, []),
+        (3, [(1, 2, 0)]),
+        (3, [(1, 0, 2), (0, 2, 1)]),
+        (4, [(1, 0, 2, 3)]),
+        (4, [(1, 0, 3, 2)]),
+        (4, [(1, 0, 3, 2), (2, 3, 0, 1)]),
+        (4, [(1, 0, 2, 3), (0, 1, 3, 2)]),
+        (4, [(1, 0, 2, 3), (1, 2, 3, 0)]),
+        (5, [(4, 1, 3, 2, 0)]),
+        (5, [(1, 2, 3, 4, 0), (0, 2, 4, 1, 3)]),
+        (6, [(1, 2, 0, 4, 5, 3), (1, 0, 2, 4, 3, 5)]),
+        (8, [(7, 1, 2, 3, 4, 5, 6, 0), (0, 6, 2, 3, 4, 5, 1, 7), (0, 1, 5, 3, 4, 2, 6, 7)]),
+    )
+]
 
 FAMILY_ATTRIBUTES = ("symbols", "positions", "outputs", "given", "changes", "constants", "sources")
 
@@ -26,7 +49,33 @@ def look_of(value):
 def has_only_tuples(value):
     if isinstance(value, tuple):
         return all(has_only_tuples(part) for part in value)
-    return value is None or type(value) in (int, str)
+    return value is None or type(value) in (int, str, bool)
+
+
+def closed_constants(changes):
+    """All rows of constants of which the changes make nothing but these."""
+    orbits = symbol_orbits(changes)
+    for many in range(len(orbits) + 1):
+        for taken in combinations(orbits, many):
+            yield tuple(sorted(symbol for orbit in taken for symbol in orbit))
+
+
+def orbits_by_hand(changes, length):
+    """All orbits of rows of a length, each ascending, in the order of their first rows."""
+    orbits = []
+    met = set()
+    for row in product(range(len(changes[0])), repeat=length):
+        if row not in met:
+            orbit = {tuple(change[symbol] for symbol in row) for change in changes}
+            met |= orbit
+            orbits.append(sorted(orbit))
+    return orbits
+
+
+def usable_by_hand(changes, constants, length):
+    """All usable rows of a length, in order."""
+    free = [orbit[0] for orbit in orbits_by_hand(changes, length) if len(orbit) == len(changes)]
+    return [row for row in free if not any(row == (constant,) * length for constant in constants)]
 
 
 class CallCase(unittest.TestCase):
@@ -42,7 +91,9 @@ class CallCase(unittest.TestCase):
             before = look_of(row)
             with self.subTest(function=function.__name__, arguments=before):
                 told = function(*row)
+                # Looks are compared, too, as True and 1 are the same for Python.
                 self.assertEqual(told, wanted)
+                self.assertEqual(look_of(told), look_of(wanted))
                 self.assertTrue(has_only_tuples(told), told)
                 self.assertEqual(look_of(row), before)
 

@@ -2,7 +2,7 @@
 
 import unittest
 
-from moveseen import changes, errors, families
+from moveseen import changes, counting, errors, families, ranking, rows, wirings
 
 KINDS = [
     changes.BadChanges,
@@ -12,6 +12,12 @@ KINDS = [
     families.BadInputs,
     families.BadOutputs,
     families.NoSource,
+    wirings.NotSquare,
+    wirings.BadTimes,
+    rows.BadRow,
+    counting.BadLength,
+    counting.BadCount,
+    ranking.NoRow,
 ]
 
 
@@ -38,6 +44,14 @@ class ErrorTest(unittest.TestCase):
                     families.Family(2, 13, 1, (), ())
                 with self.assertRaises(kind):
                     families.Family(2, 1, 1, (), ()).number_of((1, 0))
+                with self.assertRaises(kind):
+                    wirings.untouched(families.Family(2, 1, 0, (), ()))
+                with self.assertRaises(kind):
+                    rows.moved((2,), (1, 0))
+                with self.assertRaises(kind):
+                    counting.orbit_count(((0, 1),), -1)
+                with self.assertRaises(kind):
+                    ranking.usable_row(((0, 1),), (), 1, 2)
 
 
 if __name__ == "__main__":

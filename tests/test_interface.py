@@ -4,7 +4,7 @@ import ast
 import pathlib
 import unittest
 
-from moveseen import changes, families
+from moveseen import changes, counting, families, ranking, rows, wirings
 
 PACKAGE = pathlib.Path(changes.__file__).parent
 
@@ -18,6 +18,18 @@ LISTED = {
         "BadFamily", "BadWiring", "BadInputs", "BadOutputs", "NoSource", "Family", "check_source",
         "shown", "settled_wiring", "settled_inputs", "settled_outputs",
     ],
+    "wirings.py": [
+        "NotSquare", "BadTimes", "applied", "outputs_of", "untouched", "joined", "power",
+        "repetition", "undone", "times_to",
+    ],
+    "rows.py": [
+        "BadRow", "moved", "orbit_of", "first_row", "is_free", "is_usable", "rows_of",
+        "column_of", "same_column",
+    ],
+    "counting.py": [
+        "BadLength", "BadCount", "orbit_count", "free_count", "capacity", "least_length",
+    ],
+    "ranking.py": ["NoRow", "usable_row", "usable_index"],
 }
 
 
@@ -56,6 +68,44 @@ class InterfaceTest(unittest.TestCase):
         self.assertEqual(families.settled_inputs(family=family, inputs=[[0, 1]]), ((0, 1),))
         told = families.settled_outputs(family=family, inputs=[[0, 1]], outputs=[[2]])
         self.assertEqual(told, ((2,),))
+
+    def test_arguments_of_wirings_by_name(self):
+        family = families.Family(symbols=3, positions=2, outputs=2, changes=[(1, 0, 2)], constants=[2])
+        turned = ((1, 1), (0, 0))
+        self.assertEqual(wirings.applied(family=family, wiring=turned, given=(2, 0)), (1, 2))
+        told = wirings.outputs_of(family=family, wiring=turned, inputs=[(2, 0)])
+        self.assertEqual(told, ((1, 2),))
+        self.assertEqual(wirings.untouched(family=family), ((0, 0), (1, 0)))
+        told = wirings.joined(family=family, first=turned, second=((1, 0), 2))
+        self.assertEqual(told, ((0, 0), 2))
+        self.assertEqual(wirings.power(family=family, wiring=turned, times=2), ((0, 1), (1, 1)))
+        self.assertEqual(wirings.repetition(family=family, wiring=turned), (0, 4))
+        self.assertEqual(wirings.undone(family=family, wiring=turned), ((1, 0), (0, 1)))
+        told = wirings.times_to(family=family, wiring=turned, other=((0, 1), (1, 1)))
+        self.assertEqual(told, 2)
+
+    def test_arguments_of_rows_by_name(self):
+        made = changes.all_changes(3, [(1, 0, 2)])
+        self.assertEqual(rows.moved(row=(0, 2), change=(1, 0, 2)), (1, 2))
+        self.assertEqual(rows.orbit_of(changes=made, row=(0, 2)), ((0, 2), (1, 2)))
+        self.assertEqual(rows.first_row(changes=made, row=(1, 2)), (0, 2))
+        self.assertIs(rows.is_free(changes=made, row=(1, 2)), True)
+        self.assertIs(rows.is_usable(changes=made, constants=(), row=(0, 2)), True)
+        family = families.Family(3, 2, 1, [(1, 0, 2)], [2])
+        self.assertEqual(rows.rows_of(family=family, inputs=[(0, 2)]), ((0,), (2,)))
+        self.assertEqual(rows.column_of(family=family, inputs=[(0, 2)], source=(0, 1)), (1,))
+        told = rows.same_column(family=family, inputs=[(0, 2)], source=2)
+        self.assertEqual(told, ((1, 0), (1, 1), 2))
+
+    def test_arguments_of_counting_and_ranking_by_name(self):
+        made = changes.all_changes(3, [(1, 0, 2)])
+        self.assertEqual(counting.orbit_count(changes=made, length=1), 2)
+        self.assertEqual(counting.free_count(changes=made, length=1), 1)
+        self.assertEqual(counting.capacity(changes=made, constants=(0, 1), length=1), 0)
+        self.assertEqual(counting.least_length(changes=made, constants=(), many=2), 2)
+        told = ranking.usable_row(changes=made, constants=(), length=2, index=1)
+        self.assertEqual(told, (0, 1))
+        self.assertEqual(ranking.usable_index(changes=made, constants=(), row=(0, 1)), 1)
 
 
 if __name__ == "__main__":
