@@ -61,7 +61,7 @@ class Family:
 
     def number_of(self, source):
         """The number of a source in the order of all sources."""
-        if _source_fault(self, source) is not None:
+        if source_fault(self, source) is not None:
             raise NoSource("the family has no such source")
         if isinstance(source, (list, tuple)):
             position, change = source
@@ -72,6 +72,17 @@ class Family:
 def check_source(family, source):
     """The source as it stands among the sources of the family."""
     return family.sources[family.number_of(source)]
+
+
+def source_fault(family, source):
+    """The reason for which something is no source of a family, or of a wide plan; None if it is one."""
+    if not isinstance(source, (list, tuple)):
+        return None if source in family.constants else "constant"
+    if len(source) != 2 or not 0 <= source[0] < family.positions:
+        return "position"
+    if not 0 <= source[1] < len(family.changes):
+        return "change"
+    return None
 
 
 def shown(family, source, given):
@@ -93,7 +104,7 @@ def settled_wiring(family, wiring):
     if len(wiring) != family.outputs:
         raise BadWiring(None, "length")
     for output, source in enumerate(wiring):
-        reason = _source_fault(family, source)
+        reason = source_fault(family, source)
         if reason is not None:
             raise BadWiring(output, reason)
     return tuple(check_source(family, source) for source in wiring)
@@ -134,17 +145,6 @@ def _check_constants(symbols, changes, constants):
         raise BadFamily("constants")
     if any(change[constant] not in constants for change in changes for constant in constants):
         raise BadFamily("closed")
-
-
-def _source_fault(family, source):
-    """The reason for which something is no source of the family; None if it is one."""
-    if not isinstance(source, (list, tuple)):
-        return None if source in family.constants else "constant"
-    if len(source) != 2 or not 0 <= source[0] < family.positions:
-        return "position"
-    if not 0 <= source[1] < len(family.changes):
-        return "change"
-    return None
 
 
 def _first_fault(rows, length, symbols):

@@ -56,6 +56,17 @@ def usable_index(changes, constants, row):
     return index
 
 
+def first_rows(changes, length, many):
+    """The list of the first ones of those rows of a length that come first in their orbits, so many at most."""
+    branches = branches_of(changes)
+    found = [((), settled_changes(changes))]
+    for _ in range(length):
+        longer = [((*row, symbol), branches[group][symbol]) for row, group in found for symbol in branches[group]]
+        # Each of these goes on to some row, so those behind the first so many are never needed.
+        found = longer[:many]
+    return [row for row, _ in found]
+
+
 def _rows_behind(branch, table, barred, symbol):
     """How many usable rows go on with a symbol."""
     # A constant that is still barred makes one row of these if it is repeated to the end.

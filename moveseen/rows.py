@@ -51,14 +51,30 @@ def rows_of(family, inputs):
 def column_of(family, inputs, source):
     """The row of the symbols that an output with this source shows, one for each input."""
     settled = settled_inputs(family, inputs)
-    return _column(family, settled, check_source(family, source))
+    return column_shown(family, settled, check_source(family, source))
 
 
 def same_column(family, inputs, source):
     """The tuple of all sources with the column of this one, in their order."""
     settled = settled_inputs(family, inputs)
-    wanted = _column(family, settled, check_source(family, source))
-    return tuple(other for other in family.sources if _column(family, settled, other) == wanted)
+    wanted = column_shown(family, settled, check_source(family, source))
+    return tuple(sources_by_column(family, settled)[wanted])
+
+
+def column_shown(family, inputs, source):
+    """As column_of tells, of inputs and a source that were checked before."""
+    return tuple(symbol_shown(family, source, given) for given in inputs)
+
+
+def sources_by_column(family, inputs):
+    """A dict of the columns of all sources, each with the list of its sources in order.
+
+    The inputs were checked before. The columns stand in the order of their first sources.
+    """
+    alike = {}
+    for source in family.sources:
+        alike.setdefault(column_shown(family, inputs, source), []).append(source)
+    return alike
 
 
 def check_row(row, symbols):
@@ -70,7 +86,3 @@ def check_row(row, symbols):
 
 def _moved(row, change):
     return tuple(change[symbol] for symbol in row)
-
-
-def _column(family, inputs, source):
-    return tuple(symbol_shown(family, source, given) for given in inputs)

@@ -27,6 +27,38 @@ GROUPS = [
     )
 ]
 
+# Families in which all inputs, all wirings or all strategies can be tried: symbols, positions, outputs,
+# given changes, constants. Those with at most one source, or without outputs, stand at the end.
+SMALL_FAMILIES = [
+    Family(*parts)
+    for parts in (
+        (2, 2, 1, [], []),
+        (2, 3, 1, [], []),
+        (2, 2, 2, [], [1]),
+        (2, 2, 2, [], [0, 1]),
+        (2, 2, 2, [(1, 0)], []),
+        (2, 1, 2, [(1, 0)], [0, 1]),
+        (2, 2, 1, [(1, 0)], [0, 1]),
+        (3, 1, 1, [(1, 0, 2)], []),
+        (3, 2, 1, [(1, 0, 2)], [2]),
+        (3, 2, 1, [(1, 0, 2)], [0, 1]),
+        (3, 1, 2, [(1, 2, 0)], []),
+        (3, 2, 1, [(1, 2, 0)], [0, 1, 2]),
+        (3, 1, 1, [(1, 0, 2), (0, 2, 1)], []),
+        (4, 1, 2, [(1, 0, 3, 2)], [2, 3]),
+        (4, 2, 1, [(1, 0, 2, 3)], []),
+        (4, 2, 1, [(1, 0, 2, 3)], [2]),
+        (2, 5, 1, [], []),
+        (2, 0, 2, [], [0, 1]),
+        (3, 0, 1, [(1, 0, 2)], [0, 1, 2]),
+        (2, 1, 2, [], []),
+        (2, 0, 2, [], [1]),
+        (2, 0, 2, [], []),
+        (2, 2, 0, [(1, 0)], [0, 1]),
+        (3, 0, 0, [], []),
+    )
+]
+
 FAMILY_ATTRIBUTES = ("symbols", "positions", "outputs", "given", "changes", "constants", "sources")
 
 
@@ -76,6 +108,47 @@ def usable_by_hand(changes, constants, length):
     """All usable rows of a length, in order."""
     free = [orbit[0] for orbit in orbits_by_hand(changes, length) if len(orbit) == len(changes)]
     return [row for row in free if not any(row == (constant,) * length for constant in constants)]
+
+
+def shown_by_hand(family, source, given):
+    """The symbol that an output with a source shows for an input."""
+    if isinstance(source, int):
+        return source
+    return family.changes[source[1]][given[source[0]]]
+
+
+def column_by_hand(family, inputs, source):
+    return tuple(shown_by_hand(family, source, given) for given in inputs)
+
+
+def gives_by_hand(family, wiring, inputs):
+    """What a wiring gives for each of some inputs."""
+    return tuple(tuple(shown_by_hand(family, source, given) for source in wiring) for given in inputs)
+
+
+def all_wirings(family):
+    """All wirings of a family, in order."""
+    return list(product(family.sources, repeat=family.outputs))
+
+
+def all_inputs(family, many, most=5000):
+    """All rows of so many inputs; none if they are more than so many."""
+    if family.symbols ** (family.positions * many) > most:
+        return []
+    return list(product(product(range(family.symbols), repeat=family.positions), repeat=many))
+
+
+def determine_by_hand(family, inputs):
+    """True if all wirings give different outputs for some inputs."""
+    wirings = all_wirings(family)
+    return len({gives_by_hand(family, wiring, inputs) for wiring in wirings}) == len(wirings)
+
+
+def check_by_hand(family, wiring, inputs):
+    """True if no other wiring gives the same for some inputs."""
+    wanted = gives_by_hand(family, wiring, inputs)
+    others = [other for other in all_wirings(family) if other != wiring]
+    return all(gives_by_hand(family, other, inputs) != wanted for other in others)
 
 
 class CallCase(unittest.TestCase):

@@ -2,7 +2,19 @@
 
 import unittest
 
-from moveseen import changes, counting, errors, families, ranking, rows, wirings
+from moveseen import (
+    changes,
+    checks,
+    counting,
+    errors,
+    families,
+    plans,
+    ranking,
+    rows,
+    strategies,
+    wide,
+    wirings,
+)
 
 KINDS = [
     changes.BadChanges,
@@ -18,6 +30,11 @@ KINDS = [
     counting.BadLength,
     counting.BadCount,
     ranking.NoRow,
+    wide.BadPositions,
+    wide.NoPosition,
+    wide.NoNumber,
+    wide.BadColumn,
+    strategies.BadStrategy,
 ]
 
 
@@ -52,6 +69,14 @@ class ErrorTest(unittest.TestCase):
                     counting.orbit_count(((0, 1),), -1)
                 with self.assertRaises(kind):
                     ranking.usable_row(((0, 1),), (), 1, 2)
+                with self.assertRaises(kind):
+                    wide.WidePlan(2, (), (), -1)
+                with self.assertRaises(kind):
+                    strategies.depth(families.Family(2, 1, 1, (), ()), 0)
+                with self.assertRaises(kind):
+                    plans.determines(families.Family(2, 1, 1, (), ()), [(2,)])
+                with self.assertRaises(kind):
+                    checks.used(families.Family(2, 1, 1, (), ()), ())
 
 
 if __name__ == "__main__":

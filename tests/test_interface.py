@@ -4,7 +4,18 @@ import ast
 import pathlib
 import unittest
 
-from moveseen import changes, counting, families, ranking, rows, wirings
+from moveseen import (
+    changes,
+    checks,
+    counting,
+    families,
+    plans,
+    ranking,
+    rows,
+    strategies,
+    wide,
+    wirings,
+)
 
 PACKAGE = pathlib.Path(changes.__file__).parent
 
@@ -30,6 +41,13 @@ LISTED = {
         "BadLength", "BadCount", "orbit_count", "free_count", "capacity", "least_length",
     ],
     "ranking.py": ["NoRow", "usable_row", "usable_index"],
+    "plans.py": ["plan_inputs", "find_confusion", "determines"],
+    "wide.py": ["BadPositions", "NoPosition", "NoNumber", "BadColumn", "WidePlan"],
+    "strategies.py": [
+        "BadStrategy", "check_strategy", "answers_of", "unresolved", "depth", "plain", "trimmed",
+        "inputs_seen",
+    ],
+    "checks.py": ["used", "inputs_that_check", "confused_with", "checks"],
 }
 
 
@@ -47,6 +65,8 @@ class InterfaceTest(unittest.TestCase):
     def test_methods_are_defined_in_their_class(self):
         self.assertIn("number_of", vars(families.Family))
         self.assertIn("__init__", vars(families.Family))
+        for name in ("__init__", "row", "input_symbol", "column", "source_of"):
+            self.assertIn(name, vars(wide.WidePlan))
 
     def test_arguments_of_changes_by_name(self):
         given = [(1, 0, 2), (0, 2, 1)]
@@ -106,6 +126,38 @@ class InterfaceTest(unittest.TestCase):
         told = ranking.usable_row(changes=made, constants=(), length=2, index=1)
         self.assertEqual(told, (0, 1))
         self.assertEqual(ranking.usable_index(changes=made, constants=(), row=(0, 1)), 1)
+
+    def test_arguments_of_plans_and_wide_by_name(self):
+        family = families.Family(3, 2, 1, [(1, 0, 2)], [2])
+        self.assertEqual(plans.plan_inputs(family=family), ((0, 0), (0, 1)))
+        told = plans.find_confusion(family=family, inputs=[(0, 2)])
+        self.assertEqual(told, (((1, 0),), ((1, 1),)))
+        self.assertIs(plans.determines(family=family, inputs=[(0, 2)]), False)
+        plan = wide.WidePlan(symbols=3, changes=[(1, 0, 2)], constants=[2], positions=2)
+        self.assertEqual(plan.row(position=1), (0, 1))
+        self.assertEqual(plan.input_symbol(number=1, position=1), 1)
+        self.assertEqual(plan.column(source=(1, 1)), (1, 0))
+        self.assertEqual(plan.source_of(column=(1, 0)), (1, 1))
+
+    def test_arguments_of_strategies_by_name(self):
+        family = families.Family(3, 2, 1, [], [])
+        strategy = strategies.plain(family=family, inputs=[(0, 1)])
+        self.assertEqual(strategy, ((0, 1), (None, None, None)))
+        self.assertIsNone(strategies.check_strategy(family=family, strategy=strategy))
+        told = strategies.answers_of(family=family, strategy=strategy, source=(1, 0))
+        self.assertEqual(told, (1,))
+        self.assertIsNone(strategies.unresolved(family=family, strategy=strategy))
+        self.assertEqual(strategies.depth(family=family, strategy=strategy), 1)
+        self.assertEqual(strategies.trimmed(family=family, strategy=strategy), strategy)
+        self.assertEqual(strategies.inputs_seen(family=family, strategy=strategy), 2)
+
+    def test_arguments_of_checks_by_name(self):
+        family = families.Family(4, 2, 1, [(1, 0, 2, 3)], [])
+        self.assertEqual(checks.used(family=family, wiring=((1, 1),)), ((1,), ()))
+        self.assertEqual(checks.inputs_that_check(family=family, wiring=((1, 1),)), ((2, 0),))
+        told = checks.confused_with(family=family, wiring=((1, 1),), inputs=[(0, 0)])
+        self.assertEqual(told, ((0, 1),))
+        self.assertIs(checks.checks(family=family, wiring=((1, 1),), inputs=[(2, 0)]), True)
 
 
 if __name__ == "__main__":
