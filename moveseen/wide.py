@@ -48,7 +48,7 @@ class WidePlan:
     def input_symbol(self, number, position):
         """The symbol that the input with a number has at a position."""
         if not 0 <= number < self.length:
-            raise NoNumber(f"there is no input {number}")
+            raise NoNumber(f"the plan has no number {number}")
         return self.row(position)[number]
 
     def column(self, source):

@@ -3,11 +3,14 @@
 import unittest
 
 from moveseen import (
+    answers,
     changes,
     checks,
+    costs,
     counting,
     errors,
     families,
+    learners,
     plans,
     ranking,
     rows,
@@ -35,6 +38,12 @@ KINDS = [
     wide.NoNumber,
     wide.BadColumn,
     strategies.BadStrategy,
+    costs.BadCosts,
+    learners.NoInput,
+    learners.NoOutput,
+    learners.NoWiring,
+    learners.NothingToUndo,
+    learners.BadEvent,
 ]
 
 
@@ -77,6 +86,12 @@ class ErrorTest(unittest.TestCase):
                     plans.determines(families.Family(2, 1, 1, (), ()), [(2,)])
                 with self.assertRaises(kind):
                     checks.used(families.Family(2, 1, 1, (), ()), ())
+                with self.assertRaises(kind):
+                    answers.wiring_count(families.Family(2, 1, 1, (), ()), (), [(0,)])
+                with self.assertRaises(kind):
+                    costs.cheapest_length(families.Family(2, 1, 1, (), ()), (1,), 1)
+                with self.assertRaises(kind):
+                    learners.replayed(families.Family(2, 1, 1, (), ()), [("answer", (0,))])
 
 
 if __name__ == "__main__":

@@ -5,12 +5,16 @@ import pathlib
 import unittest
 
 from moveseen import (
+    answers,
     changes,
     checks,
+    costs,
     counting,
     families,
+    learners,
     plans,
     ranking,
+    redundancy,
     rows,
     strategies,
     wide,
@@ -48,6 +52,12 @@ LISTED = {
         "inputs_seen",
     ],
     "checks.py": ["used", "inputs_that_check", "confused_with", "checks"],
+    "answers.py": ["left_sources", "wiring_count", "wiring_at", "wiring_index"],
+    "redundancy.py": ["redundant_inputs", "kept_inputs"],
+    "costs.py": ["BadCosts", "cheapest_inputs", "cheapest_length", "least_check_cost"],
+    "learners.py": [
+        "NoInput", "NoOutput", "NoWiring", "NothingToUndo", "BadEvent", "Learner", "replayed",
+    ],
 }
 
 
@@ -67,6 +77,11 @@ class InterfaceTest(unittest.TestCase):
         self.assertIn("__init__", vars(families.Family))
         for name in ("__init__", "row", "input_symbol", "column", "source_of"):
             self.assertIn(name, vars(wide.WidePlan))
+        for name in (
+            "__init__", "inputs", "next_input", "answer", "rule_out", "undo", "left", "wiring_count",
+            "sure", "events",
+        ):
+            self.assertIn(name, vars(learners.Learner))
 
     def test_arguments_of_changes_by_name(self):
         given = [(1, 0, 2), (0, 2, 1)]
@@ -158,6 +173,32 @@ class InterfaceTest(unittest.TestCase):
         told = checks.confused_with(family=family, wiring=((1, 1),), inputs=[(0, 0)])
         self.assertEqual(told, ((0, 1),))
         self.assertIs(checks.checks(family=family, wiring=((1, 1),), inputs=[(2, 0)]), True)
+
+    def test_arguments_of_answers_by_name(self):
+        told = {"family": families.Family(3, 2, 1, [], []), "inputs": [(0, 0)], "outputs": [(0,)]}
+        self.assertEqual(answers.left_sources(**told), (((0, 0), (1, 0)),))
+        self.assertEqual(answers.wiring_count(**told), 2)
+        self.assertEqual(answers.wiring_at(**told, index=1), ((1, 0),))
+        self.assertEqual(answers.wiring_index(**told, wiring=((1, 0),)), 1)
+
+    def test_arguments_of_redundancy_and_costs_by_name(self):
+        family = families.Family(2, 3, 1, [], [])
+        inputs = [(0, 0, 1), (0, 1, 0), (0, 0, 0)]
+        self.assertEqual(redundancy.redundant_inputs(family=family, inputs=inputs), (2,))
+        self.assertEqual(redundancy.kept_inputs(family=family, inputs=inputs), (0, 1))
+        told = costs.cheapest_inputs(family=family, length=2, costs=(0, 1))
+        self.assertEqual(told, ((0, 0, 1), (0, 1, 0)))
+        self.assertEqual(costs.cheapest_length(family=family, costs=(0, 1), most=5), (2, 2))
+        told = costs.least_check_cost(family=family, wiring=((2, 0),), length=1, costs=(0, 1))
+        self.assertEqual(told, 1)
+
+    def test_arguments_of_learners_by_name(self):
+        family = families.Family(3, 2, 2, [], [])
+        learner = learners.Learner(family=family)
+        self.assertEqual(learner.rule_out(output=0, source=(0, 0)), 2)
+        self.assertEqual(learner.answer(output=(1, 0)), 1)
+        again = learners.replayed(family=family, events=learner.events())
+        self.assertEqual(again.events(), (("rule out", 0, (0, 0)), ("answer", (1, 0))))
 
 
 if __name__ == "__main__":
